@@ -1,0 +1,1 @@
+"""Streams kept in pieces that their own bytes cut."""
