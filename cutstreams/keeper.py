@@ -9,6 +9,12 @@ FEED = 4
 CLOSE = 5
 DROP = 6
 SIZE = 7
+READ = 8
+PIECES = 9
+TAIL = 10
+HAS = 11
+SHARED = 12
+KEPT = 13
 
 
 class NoSuchCall(ValueError):
@@ -48,6 +54,17 @@ def answer_feed(store, reader):
     return store.feed(number, reader.take_row())
 
 
+def answer_read(store, reader):
+    number = reader.take()
+    start = reader.take()
+    return store.bytes_from(number, start, reader.take())
+
+
+def answer_shared(store, reader):
+    number = reader.take()
+    return store.shared(number, reader.take())
+
+
 def answer_call(store, reader):
     call = reader.take()
     if call == BEGIN:
@@ -64,6 +81,18 @@ def answer_call(store, reader):
         return store.drop(reader.take())
     if call == SIZE:
         return store.size(reader.take())
+    if call == READ:
+        return answer_read(store, reader)
+    if call == PIECES:
+        return store.piece_lengths(reader.take())
+    if call == TAIL:
+        return store.tail_bytes(reader.take())
+    if call == HAS:
+        return store.has_piece(reader.take_row())
+    if call == SHARED:
+        return answer_shared(store, reader)
+    if call == KEPT:
+        return store.kept()
     raise NoSuchCall("no such call")
 
 

@@ -1,7 +1,8 @@
 """The streams that are kept under one rule, and what each call answers."""
 
 from cutstreams.cutting import first_rule, is_rule, Rule
-from cutstreams.streams import closed_stream, count_bytes, fed_stream, has_room, new_stream
+from cutstreams.streams import bytes_of, closed_stream, count_bytes, count_shared, different_pieces, fed_stream
+from cutstreams.streams import has_room, new_stream, places_taken, room_taken
 
 STREAM_COUNT = 8
 MOST_BYTES = 2048
@@ -17,6 +18,10 @@ NOT_ALL_FREE = -6
 
 def are_bytes(some):
     return all([number <= LARGEST_BYTE for number in some])
+
+
+def without_free(streams):
+    return [stream for stream in streams if stream is not None]
 
 
 # In the list of streams, None stands where one is free.
@@ -53,7 +58,7 @@ class Store:
         if count_bytes(stream) + len(some) > MOST_BYTES:
             return [TOO_LONG]
         behind = self.streams_with(number, fed_stream(stream, self.rule, some))
-        if not has_room([kept for kept in behind if kept is not None]):
+        if not has_room(without_free(behind)):
             return [NO_ROOM]
         self.streams = behind
         return [0]
@@ -75,6 +80,34 @@ class Store:
             return [NO_SUCH_STREAM]
         stream = self.streams[number]
         return [0, count_bytes(stream), 1 if stream.closed else 0]
+
+    def bytes_from(self, number, start, cap):
+        if not self.is_taken(number):
+            return [NO_SUCH_STREAM]
+        return [0] + bytes_of(self.streams[number])[start:start + cap]
+
+    def piece_lengths(self, number):
+        if not self.is_taken(number):
+            return [NO_SUCH_STREAM]
+        return [0] + [len(piece) for piece in self.streams[number].pieces]
+
+    def tail_bytes(self, number):
+        if not self.is_taken(number):
+            return [NO_SUCH_STREAM]
+        return [0] + list(self.streams[number].tail)
+
+    # Numbers that are no bytes need no refusal here: no piece is like a row with one of them.
+    def has_piece(self, some):
+        return [0, 1 if tuple(some) in different_pieces(without_free(self.streams)) else 0]
+
+    def shared(self, number, other):
+        if not self.is_taken(number) or not self.is_taken(other):
+            return [NO_SUCH_STREAM]
+        return [0, count_shared(self.streams[number], self.streams[other])]
+
+    def kept(self):
+        streams = without_free(self.streams)
+        return [0, room_taken(streams), places_taken(streams), len(different_pieces(streams))]
 
     def is_taken(self, number):
         return number < STREAM_COUNT and self.streams[number] is not None

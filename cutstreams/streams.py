@@ -35,13 +35,26 @@ def count_bytes(stream):
     return sum([len(piece) for piece in stream.pieces]) + len(stream.tail)
 
 
+def bytes_of(stream):
+    some = []
+    for piece in stream.pieces:
+        some.extend(piece)
+    some.extend(stream.tail)
+    return some
+
+
 # The whole bytes of a piece are the key: two pieces may have the same number and length.
 def different_pieces(streams):
     different = {}
     for stream in streams:
         for piece in stream.pieces:
             different[piece] = True
-    return list(different)
+    return different
+
+
+def count_shared(stream, other):
+    of_other = different_pieces([other])
+    return sum([len(piece) for piece in stream.pieces if piece in of_other])
 
 
 def room_taken(streams):

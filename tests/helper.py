@@ -5,6 +5,7 @@ from cutstreams.keeper import answers
 BEGIN = [1]
 OPEN = [3]
 DONE = [0]
+KEPT = [13]
 
 TOP_BIT = 2 ** 31
 
@@ -34,6 +35,26 @@ def drop(stream):
 
 def size(stream):
     return [7, stream]
+
+
+def read(stream, start=0, cap=1000000):
+    return [8, stream, start, cap]
+
+
+def pieces(stream):
+    return [9, stream]
+
+
+def tail(stream):
+    return [10, stream]
+
+
+def has(some):
+    return [11, len(some)] + list(some)
+
+
+def shared(stream, other):
+    return [12, stream, other]
 
 
 def ask(*calls):
@@ -71,6 +92,23 @@ def blocks(first, count, length=64):
     for name in range(first, first + count):
         some.extend(block(name, length))
     return some
+
+
+def text(letters):
+    return [ord(letter) for letter in letters]
+
+
+def ended_by(*bytes_that_end):
+    """A rule by which just these bytes end a piece, wherever they stand in it (or its 256th byte does)."""
+    return table(1, 1, 256, [0 if byte in bytes_that_end else TOP_BIT for byte in range(256)])
+
+
+def whole_state():
+    """Calls whose answers tell all that can be told of the streams, 41 of them."""
+    calls = [KEPT]
+    for stream in range(8):
+        calls += [size(stream), read(stream), pieces(stream), tail(stream), shared(stream, 0)]
+    return calls
 
 
 def in_parts(stream, some, length):

@@ -27,6 +27,10 @@ NOWHERE = re.compile(r"\b(type|typing|typing_extensions|enum|Enum|IntEnum|StrEnu
                      r"dataclass|overload|contextmanager")
 NOT_USED = {"register", "mro", "elements", "open", "input", "version_info", "with_traceback", "add_note", "format",
             "format_map"}
+METHODS = set("""append clear copy count endswith extend find get index insert isalnum isalpha isdigit islower isspace
+    isupper items join keys ljust lower lstrip partition pop remove replace reverse rfind rjust rpartition rsplit
+    rstrip setdefault split splitlines startswith strip update upper values zfill bit_length""".split())
+PYTHONS_OWN = {name for kind in (str, int, list, tuple, dict, set, bytes) for name in dir(kind)}
 
 
 def files():
@@ -90,6 +94,55 @@ class Language(unittest.TestCase):
                 self.assertNotIn(node.arg, NOT_BOUND, where)
             if isinstance(node, ast.FunctionDef):
                 self.assertNotIn(node.name, NOT_USED, where)
+
+    def own_methods(self):
+        return {part.name for name, node in self.walked() if isinstance(node, ast.ClassDef)
+                for part in node.body if isinstance(part, ast.FunctionDef)}
+
+    def own_values(self):
+        return {node.attr for name, node in self.walked()
+                if isinstance(node, ast.Attribute) and isinstance(node.ctx, ast.Store)}
+
+    def test_no_name_is_a_method_and_a_value(self):
+        self.assertEqual(self.own_methods() & self.own_values(), set())
+
+    def test_own_methods_and_values_are_not_called_like_pythons_own(self):
+        self.assertEqual((self.own_methods() - {"__init__"} | self.own_values()) & PYTHONS_OWN, set())
+
+    def test_methods_are_own_ones_or_those_that_are_told(self):
+        for name, node in self.walked():
+            if isinstance(node, ast.Call) and isinstance(node.func, ast.Attribute):
+                self.assertIn(node.func.attr, METHODS | self.own_methods(), (name, node.lineno))
+
+    def test_a_name_is_bound_once_at_a_files_top(self):
+        for name in files():
+            bound = []
+            for node in ast.parse(text_of(name)).body:
+                if isinstance(node, (ast.FunctionDef, ast.ClassDef)):
+                    bound.append(node.name)
+                if isinstance(node, ast.ImportFrom):
+                    bound += [alias.name for alias in node.names]
+                if isinstance(node, ast.Assign):
+                    self.assertEqual(len(node.targets), 1, (name, node.lineno))
+                    bound.append(node.targets[0].id)
+            self.assertEqual(sorted(set(bound)), sorted(bound), name)
+
+    def test_names_come_from_the_very_file_that_defines_them(self):
+        for name, node in self.walked():
+            if isinstance(node, ast.ImportFrom):
+                source = ast.parse(text_of(node.module.split(".")[1] + ".py"))
+                defined = {part.name for part in source.body if isinstance(part, (ast.FunctionDef, ast.ClassDef))}
+                for alias in node.names:
+                    self.assertIn(alias.name, defined, (name, node.lineno))
+                    self.assertIsNone(alias.asname, (name, node.lineno))
+
+    def test_each_name_that_is_drawn_is_used(self):
+        for name in files():
+            source = ast.parse(text_of(name))
+            used = {node.id for node in ast.walk(source) if isinstance(node, ast.Name)}
+            for node in ast.walk(source):
+                if isinstance(node, ast.ImportFrom):
+                    self.assertLessEqual({alias.name for alias in node.names}, used, name)
 
     def test_is_stands_beside_none_true_and_false_alone(self):
         for name, node in self.walked():

@@ -6,7 +6,7 @@ The model keeps each stream's bytes and nothing else, and finds pieces, tail and
 import random
 import unittest
 
-from helper import BEGIN, OPEN, ask, close, drop, feed, size, table
+from helper import BEGIN, KEPT, OPEN, ask, close, drop, feed, has, pieces, read, shared, size, table, tail
 
 
 def row_number(numbers, row):
@@ -56,21 +56,25 @@ class Model:
             self.found[key] = (pieces, key[place:])
         return self.found[key]
 
+    def cut_stream(self, stream, some):
+        pieces, tail = self.cut(some)
+        if stream in self.shut and len(tail) > 0:
+            return pieces + [tail], b""
+        return pieces, tail
+
     def room(self, fed):
         different = set()
         taken = 0
         places = 0
         for stream, some in fed.items():
-            pieces, tail = self.cut(some)
-            if stream in self.shut and len(tail) > 0:
-                pieces, tail = pieces + [tail], b""
+            pieces, tail = self.cut_stream(stream, some)
             different.update(pieces)
             taken += len(tail)
             places += len(pieces) + (len(tail) > 0)
-        return (taken + sum(len(piece) for piece in different), places)
+        return (taken + sum(len(piece) for piece in different), places, len(different))
 
     def has_room(self, fed):
-        taken, places = self.room(fed)
+        taken, places, different = self.room(fed)
         return taken <= 4096 and places <= 256
 
     def table(self, bits, least, most, numbers):
@@ -119,9 +123,50 @@ class Model:
             return [-1]
         return [0, len(self.fed[stream]), int(stream in self.shut)]
 
+    def read(self, stream, start, cap):
+        if stream not in self.fed:
+            return [-1]
+        return [0] + [byte for place, byte in enumerate(self.fed[stream]) if start <= place < start + cap]
+
+    def pieces(self, stream):
+        if stream not in self.fed:
+            return [-1]
+        return [0] + [len(piece) for piece in self.cut_stream(stream, self.fed[stream])[0]]
+
+    def tail(self, stream):
+        if stream not in self.fed:
+            return [-1]
+        return [0] + list(self.cut_stream(stream, self.fed[stream])[1])
+
+    def has(self, some):
+        for stream, fed in self.fed.items():
+            for piece in self.cut_stream(stream, fed)[0]:
+                if list(piece) == some:
+                    return [0, 1]
+        return [0, 0]
+
+    def shared(self, stream, other):
+        if stream not in self.fed or other not in self.fed:
+            return [-1]
+        total = 0
+        for piece in self.cut_stream(stream, self.fed[stream])[0]:
+            if piece in self.cut_stream(other, self.fed[other])[0]:
+                total += len(piece)
+        return [0, total]
+
+    def kept(self):
+        return [0] + list(self.room(self.fed))
+
 
 WRITTEN = {"begin": lambda: BEGIN, "open": lambda: OPEN, "table": table, "feed": feed, "close": close,
-           "drop": drop, "size": size}
+           "drop": drop, "size": size, "read": read, "pieces": pieces, "tail": tail, "has": has, "shared": shared,
+           "kept": lambda: KEPT}
+# How often each is drawn.
+WEIGHTS = {"begin": 1, "table": 2, "open": 12, "feed": 40, "close": 6, "drop": 5, "size": 3, "read": 8, "pieces": 6,
+           "tail": 6, "has": 10, "shared": 8, "kept": 8}
+# What can be told of the streams, each once.
+ALL_ASKED = [("kept",)] + [(name, stream) for name in ("size", "pieces", "tail") for stream in range(8)]
+ALL_ASKED += [("read", stream, 0, 1000000) for stream in range(8)]
 
 
 class Source:
@@ -162,27 +207,59 @@ class Source:
     def stream(self):
         return self.chance.choice((0, 0, 0, 1, 1, 1, 2, 2, 3, 4, 5, 6, 7, 8, 1000000))
 
-    def call(self):
-        name = self.chance.choices(("begin", "table", "open", "feed", "close", "drop", "size"),
-                                   (1, 2, 12, 40, 5, 5, 15))[0]
+    def row_of(self, model):
+        """A piece of some stream or its tail, at times one number off; or any row."""
+        chance = self.chance
+        rows = []
+        for stream, fed in model.fed.items():
+            pieces, tail = model.cut_stream(stream, fed)
+            rows += pieces + [tail]
+        if not rows or chance.random() < 0.1:
+            return self.some()
+        row = list(chance.choice(rows))
+        if row and chance.random() < 0.3:
+            row[chance.randrange(len(row))] += chance.choice((1, 256, 4294967040))
+        elif chance.random() < 0.1:
+            row = row[1:]
+        return row
+
+    def read(self):
+        chance = self.chance
+        start = chance.choice((0, 0, 1, 63, 64, 100, 700, 2048, 1000000, chance.randrange(2100)))
+        cap = chance.choice((0, 1, 64, 100, 2048, 1000000, 1000000, chance.randrange(2100)))
+        return ("read", self.stream(), start, cap)
+
+    def call(self, model):
+        name = self.chance.choices(list(WEIGHTS), list(WEIGHTS.values()))[0]
         if name == "table":
             return self.rule()
         if name == "feed":
             return (name, self.stream(), self.some())
-        if name in ("close", "drop", "size"):
+        if name == "read":
+            return self.read()
+        if name == "has":
+            return (name, self.row_of(model))
+        if name == "shared":
+            return (name, self.stream(), self.stream())
+        if name in ("close", "drop", "size", "pieces", "tail"):
             return (name, self.stream())
         return (name,)
 
-    def calls(self):
+    def calls(self, count):
+        """So many calls, or as many as a list may have, and what the model answers."""
+        model = Model()
         drawn = [self.rule(), ("open",), ("open",)]
+        told = asked_of_model(model, drawn)
         numbers = 300
-        while len(drawn) < 60:
-            call = self.call()
+        while len(drawn) < count:
+            call = self.call(model)
             numbers += 5 + sum(len(part) for part in call[1:] if isinstance(part, list))
-            if numbers > 31000:
+            # What is asked behind them all has its share too.
+            if numbers > 30900:
                 break
             drawn.append(call)
-        return drawn
+            told += asked_of_model(model, [call])
+        return drawn, told, model
 
     def calls_that_leave_some_room(self):
         """Stream 3 is open and empty behind them."""
@@ -212,17 +289,33 @@ def asked_of_program(drawn):
     return ask(*[WRITTEN[call[0]](*call[1:]) for call in drawn])
 
 
+def sort_of_answer(answer):
+    """The refusal's number; or 0 where only noughts are told, 1 where more is."""
+    return answer[0] if answer[0] < 0 else int(any(answer))
+
+
 class LikeTheModel(unittest.TestCase):
 
     def test_drawn_rows_of_calls(self):
         seen = {}
-        for seed in range(150):
-            drawn = Source(seed).calls()
-            told = asked_of_model(Model(), drawn)
+        for seed in range(200):
+            drawn, told, model = Source(seed).calls(60)
             self.assertEqual(asked_of_program(drawn), told, seed)
             for call, answer in zip(drawn, told):
-                seen[call[0], answer[0]] = seen.get((call[0], answer[0]), 0) + 1
+                key = (call[0], sort_of_answer(answer))
+                seen[key] = seen.get(key, 0) + 1
         self.every_answer_is_among_them(seen)
+
+    def test_all_that_can_be_told_behind_drawn_rows_of_calls(self):
+        for seed in range(1000, 1150):
+            drawn, told, model = Source(seed).calls(60 - len(ALL_ASKED))
+            self.assertEqual(asked_of_program(drawn + ALL_ASKED), told + asked_of_model(model, ALL_ASKED), seed)
+
+    def test_all_pairs_of_streams_behind_drawn_rows_of_calls(self):
+        asked = [("shared", stream, other) for stream in range(6) for other in range(6)]
+        for seed in range(2000, 2100):
+            drawn, told, model = Source(seed).calls(60 - len(asked))
+            self.assertEqual(asked_of_program(drawn + asked), told + asked_of_model(model, asked), seed)
 
     def test_feeds_that_fill_room_to_the_byte(self):
         edges = {"bytes": 0, "places": 0}
@@ -234,20 +327,22 @@ class LikeTheModel(unittest.TestCase):
             some = source.row(2048)
             length = longest_taken(model, 3, some)
             if length < len(some):
-                just = asked_of_program(drawn + [("feed", 3, some[:length]), ("size", 3)])
-                self.assertEqual(just[-2:], [[0], [0, length, 0]], seed)
-                over = asked_of_program(drawn + [("feed", 3, some[:length + 1]), ("size", 3)])
-                self.assertEqual(over[-2:], [[-5], [0, 0, 0]], seed)
+                just = asked_of_program(drawn + [("feed", 3, some[:length]), ("size", 3), ("kept",)])
+                kept = model.room({**model.fed, 3: some[:length]})
+                self.assertEqual(just[-3:], [[0], [0, length, 0], [0] + list(kept)], seed)
+                over = asked_of_program(drawn + [("feed", 3, some[:length + 1]), ("size", 3), ("kept",)])
+                self.assertEqual(over[-3:], [[-5], [0, 0, 0], model.kept()], seed)
                 places = model.room({**model.fed, 3: some[:length + 1]})[1]
                 edges["places" if places > 256 else "bytes"] += 1
         self.assertGreater(min(edges.values()), 5)
 
     def every_answer_is_among_them(self, seen):
-        told = {"begin": (0,), "table": (0, -2, -6), "open": (0, -4), "feed": (0, -1, -3, -5), "close": (0, -1),
-                "drop": (0, -1), "size": (0, -1)}
+        told = {"begin": (0,), "table": (0, -2, -6), "open": (1, -4), "feed": (0, -1, -3, -5), "close": (0, -1),
+                "drop": (0, -1), "size": (0, 1, -1), "read": (0, 1, -1), "pieces": (0, 1, -1), "tail": (0, 1, -1),
+                "has": (0, 1), "shared": (0, 1, -1), "kept": (0, 1)}
         for name, numbers in told.items():
             for number in numbers:
-                self.assertGreater(seen.get((name, number), 0), 2, (name, number))
+                self.assertGreater(seen.get((name, number), 0), 5, (name, number))
 
 
 if __name__ == "__main__":

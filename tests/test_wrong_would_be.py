@@ -1,9 +1,9 @@
-"""What the document says would be wrong, a test for each, and its examples: told through room and size."""
+"""What the document says would be wrong, and its examples: told by what is taken and refused, and by what is asked."""
 
 import unittest
 
-from helper import (BEGIN, DONE, OPEN, TOP_BIT, ask, block, blocks, close, drop, feed, in_parts, last, numbers_of,
-                    size, table)
+from helper import (BEGIN, DONE, KEPT, OPEN, TOP_BIT, ask, block, blocks, close, drop, ended_by, feed, has, in_parts,
+                    last, numbers_of, pieces, read, shared, size, table, tail, text)
 
 NO_ROOM = [-5]
 EIGHT = [OPEN] * 8
@@ -17,7 +17,7 @@ class FullTestCase(unittest.TestCase):
         self.assertEqual(found[-2:], [DONE, NO_ROOM])
 
 
-class WrongWouldBe(FullTestCase):
+class WrongWouldBeByWhatIsTaken(FullTestCase):
 
     def test_the_number_going_on_over_a_pieces_end(self):
         # 2 is a piece with the number 2^30: were it to go on, it would be 2^31 at the 0, and end nothing.
@@ -104,11 +104,86 @@ class WrongWouldBe(FullTestCase):
         self.fills(*EIGHT, feed(0, blocks(0, 32)), feed(1, blocks(32, 31)), feed(2, [5] * 2048))
 
 
+class WrongWouldBeByWhatIsAsked(unittest.TestCase):
+
+    def cut_as(self, calls, lengths, left):
+        self.assertEqual(ask(*calls, pieces(0), tail(0))[-2:], [[0] + lengths, [0] + left])
+
+    def test_the_number_going_on_over_a_pieces_end(self):
+        rule = table(1, 1, 256, numbers_of({2: 2 ** 30}))
+        self.cut_as([rule, OPEN, feed(0, [2, 0, 0, 2, 0])], [1, 1, 1, 1, 1], [])
+        # Nor over the end of a part that is a piece's end too.
+        self.cut_as([rule, OPEN, feed(0, [2]), feed(0, [0])], [1, 1], [])
+
+    def test_the_number_going_on_over_a_piece_of_most_bytes(self):
+        rule = table(1, 1, 8, numbers_of({1: TOP_BIT, 3: TOP_BIT + 2 ** 30}))
+        self.cut_as([rule, OPEN, feed(0, [1] * 7 + [3, 0, 0])], [8, 1, 1], [])
+
+    def test_a_piece_of_most_bytes_that_is_not_ended(self):
+        self.cut_as([table(16, 1, 8, [TOP_BIT] * 256), OPEN, feed(0, [1] * 20)], [8, 8], [1] * 4)
+        self.cut_as([table(16, 8, 8, [TOP_BIT] * 256), OPEN, feed(0, [1] * 8)], [8], [])
+
+    def test_least_looked_at_one_byte_early(self):
+        self.cut_as([table(0, 8, 256), OPEN, feed(0, [1] * 23)], [8, 8], [1] * 7)
+        # 2, 0 has the number 2^30, below the limit, but too few bytes; 2, 0, 0 has 2^31.
+        rule = table(1, 3, 256, numbers_of({2: 2 ** 29}))
+        self.cut_as([rule, OPEN, feed(0, [2, 0, 0, 0, 2])], [4], [2])
+
+    def test_a_parts_end_that_ends_a_piece(self):
+        for length in (1, 7, 9, 10, 11):
+            self.cut_as([table(0, 10, 10), OPEN, *in_parts(0, [1] * 54, length)], [10] * 5, [1] * 4)
+            self.cut_as([table(1, 2, 8, [TOP_BIT] * 256), OPEN, *in_parts(0, [1] * 54, length)], [8] * 6, [1] * 6)
+
+    def test_dropping_one_of_two_taking_the_shared_pieces_away(self):
+        some = blocks(0, 3) + [1, 2]
+        for dropped in (0, 1):
+            calls = [OPEN, OPEN, feed(0, some), feed(1, some), drop(dropped)]
+            left = 1 - dropped
+            asked = [read(left), pieces(left), tail(left), has(block(1)), shared(left, left), KEPT]
+            self.assertEqual(ask(*calls, *asked)[-6:],
+                             [[0] + some, [0, 64, 64, 64], [0, 1, 2], [0, 1], [0, 192], [0, 194, 4, 3]])
+
+    def test_a_refused_feed_leaving_its_first_part(self):
+        base = [*EIGHT, feed(0, blocks(0, 32)), feed(1, blocks(32, 31)), feed(2, [1] * 5)]
+        asked = [size(2), read(2), pieces(2), tail(2), has(block(0)), has([1] * 5 + block(0)[:59]), KEPT]
+        told = ask(*base, *asked)[-7:]
+        for refused, number in ((block(0) + block(0), -5), (block(0) + [256], -1), (blocks(0, 31) + [0] * 60, -3)):
+            self.assertEqual(ask(*base, feed(2, refused), *asked)[-8:], [[number]] + told)
+
+    def test_an_open_streams_tail_counted_as_a_piece_beside(self):
+        calls = [OPEN, OPEN, feed(0, [1] * 64 + [2]), feed(1, [2])]
+        asked = [pieces(0), has([2]), shared(0, 1), shared(1, 0), shared(1, 1), KEPT]
+        self.assertEqual(ask(*calls, *asked)[-6:], [[0, 64], [0, 0], [0, 0], [0, 0], [0, 0], [0, 66, 3, 1]])
+
+    def test_closing_making_an_empty_piece(self):
+        self.cut_as([OPEN, close(0)], [], [])
+        self.cut_as([OPEN, feed(0, [1] * 128), close(0)], [64, 64], [])
+        self.assertEqual(ask(OPEN, feed(0, [1] * 128), close(0), has([]), KEPT)[-2:], [[0, 0], [0, 64, 2, 1]])
+
+    def test_closing_leaving_the_tail_beside_its_piece(self):
+        self.cut_as([OPEN, feed(0, [1] * 70), close(0)], [64, 6], [])
+        self.assertEqual(ask(OPEN, feed(0, [1] * 70), close(0), read(0), KEPT)[-2:],
+                         [[0] + [1] * 70, [0, 70, 2, 2]])
+
+    def test_two_pieces_with_the_same_number_and_length_taken_for_the_same(self):
+        # Twice 1 and 2 is as much as twice 2 and 0; in the table of noughts all are.
+        for rule in (table(0, 2, 2, range(256)), table(0, 2, 2)):
+            calls = [rule, OPEN, OPEN, feed(0, [1, 2, 3, 3]), feed(1, [2, 0, 3, 3])]
+            asked = [read(0), read(1), shared(0, 1), has([0, 4]), has([1, 2]), has([2, 0]), KEPT]
+            self.assertEqual(ask(*calls, *asked)[-7:], [[0, 1, 2, 3, 3], [0, 2, 0, 3, 3], [0, 2], [0, 0], [0, 1],
+                                                        [0, 1], [0, 6, 4, 3]])
+
+    def test_room_counted_for_pieces_before_they_are_found_to_be_there(self):
+        full = [*EIGHT, feed(0, blocks(0, 32)), feed(1, blocks(32, 32))]
+        self.assertEqual(ask(*full, feed(2, blocks(16, 32)), KEPT, read(2))[-3:],
+                         [DONE, [0, 4096, 96, 64], [0] + blocks(16, 32)])
+
+
 class AlikeFromWhereAPieceEnds(FullTestCase):
 
     def test_streams_that_go_on_alike_are_cut_alike(self):
         # A byte 1 ends each piece, so the two differ up to the first 1 only.
-        rule = table(1, 1, 256, [0 if byte == 1 else TOP_BIT for byte in range(256)])
+        rule = ended_by(1)
         common = sum([[2] * (20 + count) + [1] for count in range(40)], [])
         first = [3] * 30 + [1] + common
         second = [4] * 45 + [1] + common
@@ -142,6 +217,18 @@ class Examples(FullTestCase):
         # 4 places are taken; 252 pieces more fill them.
         self.fills(table(0, 3, 8), *EIGHT, feed(0, abcabc), feed(1, abcx), feed(2, abcabc * 126))
         self.fills(table(0, 3, 8), *EIGHT, feed(0, abcabc), BEGIN, table(0, 3, 8), *EIGHT, feed(2, abcabc * 128))
+
+    def test_the_first_number_by_number(self):
+        some = [(3 * place) % 256 for place in range(130)]
+        found = ask(OPEN, feed(0, some), pieces(0), tail(0), close(0), pieces(0), tail(0), read(0))
+        self.assertEqual(found, [[0, 0], DONE, [0, 64, 64], [0] + some[128:], DONE, [0, 64, 64, 2], DONE, [0] + some])
+
+    def test_the_second_number_by_number(self):
+        calls = [table(0, 3, 8), OPEN, OPEN, feed(0, text("abcabc")), feed(1, text("abcx"))]
+        asked = [pieces(0), tail(0), pieces(1), tail(1), shared(1, 0), shared(0, 1), KEPT]
+        # The one piece abc counts for "abcabc" twice, and for "abcx", which shares 3 bytes, once.
+        self.assertEqual(ask(*calls, *asked)[-7:],
+                         [[0, 3, 3], DONE, [0, 3], [0, 120], [0, 3], [0, 6], [0, 4, 4, 1]])
 
 
 if __name__ == "__main__":
